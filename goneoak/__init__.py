@@ -1,0 +1,1 @@
+"""A treasure told by paces: where it lies, and which landmarks a text needs."""
