@@ -1,11 +1,19 @@
 """The calls on one map of landmarks and texts, and what they answer."""
 
+from goneoak.sayings import NOTHING, PARTS, added, count_followed, is_text, is_too_fine, shares_of
+
 BEGIN = 0
 TEXT = 1
 TREASURE = 2
 NEEDS = 3
 TELLS = 4
 SAME = 5
+LOST = 6
+LINE = 7
+APART = 8
+MOVE = 9
+GONE = 10
+LOOK = 11
 
 WRONG = -1
 NO_TEXT = -2
@@ -13,31 +21,14 @@ NOT_THERE = -3
 TOO_FINE = -4
 TEXTS_FULL = -5
 IS_GONE = -6
+NOT_NEEDED = -7
 NO_MAP = -9
-
-STAND = 0
-TO_LANDMARK = 1
-TO_PEG = 2
-TURN = 3
-GO_ON = 4
-GO_HALF = 5
-DRIVE = 6
-HALFWAY = 7
-
-# How many numbers a saying has, its sort among them, by its sort.
-SAYING_LENGTHS = (2, 2, 2, 2, 2, 1, 1, 3)
 
 MOST_LANDMARKS = 4
 MOST_TEXTS = 4
-MOST_SAYINGS = 14
-MOST_HALVINGS = 8
-MOST_TIMES = 3
 FARTHEST = 1000
 
-# A text halves at most 8 times, so whatever it leads to is whole when told in parts of 1/256.
-PARTS = 256
-
-NOTHING = (0, 0)
+MIDDLE = (0, 0)
 
 
 class UnknownCall(ValueError):
@@ -52,81 +43,74 @@ class Chart:
         self.texts = []
 
 
-class Follower:
-    """One who follows a text, wherever the landmarks stand.
-
-    Places and ways are kept as shares: for each landmark the pair of east and north, in parts, by which
-    the place moves when that landmark is moved by a pace to the east. Each saying only adds, turns and
-    halves, so the shares tell the place whole: it is the sum of each share times its landmark's place,
-    both read as complex numbers.
-    """
-
-    def __init__(self, landmarks):
-        self.landmarks = landmarks
-        self.here = [NOTHING for landmark in range(landmarks)]
-        self.way = [NOTHING for landmark in range(landmarks)]
-        self.pegs = []
-
-    def follow(self, saying):
-        sort = saying[0]
-        if sort == STAND:
-            self.here = landmark_shares(saying[1], self.landmarks)
-        elif sort == TO_LANDMARK:
-            self.go_to(landmark_shares(saying[1], self.landmarks))
-        elif sort == TO_PEG:
-            self.go_to(self.pegs[saying[1]])
-        elif sort == TURN:
-            self.way = turned(self.way, saying[1])
-        elif sort == GO_ON:
-            self.here = added(self.here, self.way, saying[1])
-        elif sort == GO_HALF:
-            self.here = added(self.here, halved(self.way), 1)
-        elif sort == DRIVE:
-            self.pegs.append(self.here)
-        else:
-            self.go_to(halved(added(self.pegs[saying[1]], self.pegs[saying[2]], 1)))
-
-    def go_to(self, there):
-        self.way = added(there, self.here, -1)
-        self.here = there
+def common_divisor(numbers):
+    largest = 0
+    for number in numbers:
+        smaller = abs(number)
+        while smaller != 0:
+            rest = largest % smaller
+            largest = smaller
+            smaller = rest
+    return largest
 
 
-def landmark_shares(standing, landmarks):
-    return [(PARTS, 0) if landmark == standing else NOTHING for landmark in range(landmarks)]
+def in_lowest_terms(numbers):
+    shared = common_divisor(numbers)
+    return [number // shared for number in numbers]
 
 
-def added(shares, others, times):
-    return [(share[0] + times * other[0], share[1] + times * other[1]) for share, other in zip(shares, others)]
-
-
-def halved(shares):
-    return [(share[0] // 2, share[1] // 2) for share in shares]
-
-
-def turned(shares, turns):
-    facing = shares
-    for turn in range(turns):
-        facing = [(-share[1], share[0]) for share in facing]
-    return facing
-
-
-def common_divisor(first, second):
-    larger = first
-    smaller = second
-    while smaller != 0:
-        rest = larger % smaller
-        larger = smaller
-        smaller = rest
-    return larger
-
-
-def in_lowest_terms(east, north, under):
-    shared = common_divisor(common_divisor(under, abs(east)), abs(north))
-    return [east // shared, north // shared, under // shared]
+def product(pair, other):
+    """Of pairs of east and north, read as complex numbers."""
+    return (pair[0] * other[0] - pair[1] * other[1], pair[0] * other[1] + pair[1] * other[0])
 
 
 def is_place(numbers):
     return len(numbers) == 2 and all([-FARTHEST <= number <= FARTHEST for number in numbers])
+
+
+def has_text(chart, text):
+    return text < len(chart.texts)
+
+
+def has_landmark(chart, landmark):
+    return landmark < len(chart.places)
+
+
+def places_with(chart, landmark, place):
+    """The places as they are, but for one landmark's."""
+    return [place if number == landmark else kept for number, kept in enumerate(chart.places)]
+
+
+def treasure_shares(chart, text):
+    return shares_of(chart.texts[text], len(chart.places))
+
+
+def needed_landmarks(shares):
+    return [landmark for landmark, share in enumerate(shares) if share != NOTHING]
+
+
+def refusal_if_gone(places, shares):
+    """The refusal, if a landmark is needed that's gone; empty otherwise."""
+    for landmark in needed_landmarks(shares):
+        if len(places[landmark]) == 0:
+            return [IS_GONE, landmark]
+    return []
+
+
+def treasure_in_parts(places, shares):
+    """Where the treasure lies, if each landmark that's needed stands somewhere."""
+    east = 0
+    north = 0
+    for landmark in needed_landmarks(shares):
+        told = product(shares[landmark], places[landmark])
+        east = east + told[0]
+        north = north + told[1]
+    return (east, north)
+
+
+def treasure_place(places, shares):
+    parts = treasure_in_parts(places, shares)
+    return in_lowest_terms([parts[0], parts[1], PARTS])
 
 
 def begin(chart, landmarks):
@@ -140,53 +124,13 @@ def begin(chart, landmarks):
     return [0]
 
 
-def is_saying(saying):
-    if len(saying) == 0 or saying[0] >= len(SAYING_LENGTHS):
-        return False
-    return len(saying) == SAYING_LENGTHS[saying[0]]
-
-
-def is_text(sayings):
-    if not 1 <= len(sayings) <= MOST_SAYINGS:
-        return False
-    for number, saying in enumerate(sayings):
-        if not is_saying(saying) or (saying[0] == STAND) != (number == 0):
-            return False
-    return True
-
-
-def can_follow(saying, landmarks, pegs):
-    sort = saying[0]
-    if sort == STAND or sort == TO_LANDMARK:
-        return saying[1] < landmarks
-    if sort == TURN or sort == GO_ON:
-        return 1 <= saying[1] <= MOST_TIMES
-    # What is left tells of pegs, or of nothing.
-    return all([peg < pegs for peg in saying[1:]])
-
-
-def count_followed(sayings, landmarks):
-    """How many sayings can be followed, up to the first that can't."""
-    pegs = 0
-    for number, saying in enumerate(sayings):
-        if not can_follow(saying, landmarks, pegs):
-            return number
-        if saying[0] == DRIVE:
-            pegs = pegs + 1
-    return len(sayings)
-
-
-def count_halvings(sayings):
-    return len([saying for saying in sayings if saying[0] == GO_HALF or saying[0] == HALFWAY])
-
-
 def add_text(chart, sayings):
     if not is_text(sayings):
         return [WRONG]
     followed = count_followed(sayings, len(chart.places))
     if followed < len(sayings):
         return [NOT_THERE, followed]
-    if count_halvings(sayings) > MOST_HALVINGS:
+    if is_too_fine(sayings):
         return [TOO_FINE]
     if len(chart.texts) == MOST_TEXTS:
         return [TEXTS_FULL]
@@ -194,45 +138,14 @@ def add_text(chart, sayings):
     return [len(chart.texts) - 1]
 
 
-def has_text(chart, text):
-    return text < len(chart.texts)
-
-
-def treasure_shares(chart, text):
-    follower = Follower(len(chart.places))
-    for saying in chart.texts[text]:
-        follower.follow(saying)
-    return follower.here
-
-
-def needed_landmarks(shares):
-    return [landmark for landmark, share in enumerate(shares) if share != NOTHING]
-
-
-def gone_landmarks(chart, landmarks):
-    return [landmark for landmark in landmarks if len(chart.places[landmark]) == 0]
-
-
-def treasure_place(chart, shares):
-    """Where the treasure lies, if each landmark that's needed stands somewhere."""
-    east = 0
-    north = 0
-    for landmark in needed_landmarks(shares):
-        share = shares[landmark]
-        place = chart.places[landmark]
-        east = east + share[0] * place[0] - share[1] * place[1]
-        north = north + share[0] * place[1] + share[1] * place[0]
-    return in_lowest_terms(east, north, PARTS)
-
-
 def treasure(chart, text):
     if not has_text(chart, text):
         return [NO_TEXT]
     shares = treasure_shares(chart, text)
-    missing = gone_landmarks(chart, needed_landmarks(shares))
-    if len(missing) > 0:
-        return [IS_GONE, missing[0]]
-    return [0] + treasure_place(chart, shares)
+    refusal = refusal_if_gone(chart.places, shares)
+    if len(refusal) > 0:
+        return refusal
+    return [0] + treasure_place(chart.places, shares)
 
 
 def needs(chart, text):
@@ -245,16 +158,89 @@ def needs(chart, text):
 def tells(chart, text, landmark):
     if not has_text(chart, text):
         return [NO_TEXT]
-    if landmark >= len(chart.places):
+    if not has_landmark(chart, landmark):
         return [WRONG]
     share = treasure_shares(chart, text)[landmark]
-    return [0] + in_lowest_terms(share[0], share[1], PARTS)
+    return [0] + in_lowest_terms([share[0], share[1], PARTS])
 
 
 def same(chart, text, other):
     if not has_text(chart, text) or not has_text(chart, other):
         return [NO_TEXT]
     return [1 if treasure_shares(chart, text) == treasure_shares(chart, other) else 0]
+
+
+def lost(chart, text, landmark, found):
+    if not has_text(chart, text):
+        return [NO_TEXT]
+    if not has_landmark(chart, landmark) or not is_place(found):
+        return [WRONG]
+    shares = treasure_shares(chart, text)
+    share = shares[landmark]
+    if share == NOTHING:
+        return [NOT_NEEDED]
+    # In the middle the landmark adds nothing, so what's missing from there to the treasure is its part.
+    places = places_with(chart, landmark, MIDDLE)
+    refusal = refusal_if_gone(places, shares)
+    if len(refusal) > 0:
+        return refusal
+    others = treasure_in_parts(places, shares)
+    missing = (PARTS * found[0] - others[0], PARTS * found[1] - others[1])
+    # Divided by the share as complex numbers are: times its mirror image, over the square of its length.
+    stood = product(missing, (share[0], -share[1]))
+    return [0] + in_lowest_terms([stood[0], stood[1], share[0] * share[0] + share[1] * share[1]])
+
+
+def line(chart, text, landmark, first, second):
+    if not has_text(chart, text):
+        return [NO_TEXT]
+    if not has_landmark(chart, landmark) or not is_place(first) or not is_place(second):
+        return [WRONG]
+    shares = treasure_shares(chart, text)
+    refusal = refusal_if_gone(places_with(chart, landmark, first), shares)
+    if len(refusal) > 0:
+        return refusal
+    answer = [0]
+    for place in (first, second):
+        answer.extend(treasure_place(places_with(chart, landmark, place), shares))
+    return answer
+
+
+def apart(chart, text, other):
+    if not has_text(chart, text) or not has_text(chart, other):
+        return [NO_TEXT]
+    shares = treasure_shares(chart, text)
+    others = treasure_shares(chart, other)
+    for needed in (shares, others):
+        refusal = refusal_if_gone(chart.places, needed)
+        if len(refusal) > 0:
+            return refusal
+    between = treasure_in_parts(chart.places, added(shares, others, -1))
+    return in_lowest_terms([between[0] * between[0] + between[1] * between[1], PARTS * PARTS])
+
+
+def move(chart, landmark, place):
+    if not has_landmark(chart, landmark) or not is_place(place):
+        return [WRONG]
+    chart.places = places_with(chart, landmark, place)
+    return [0]
+
+
+def make_gone(chart, landmark):
+    if not has_landmark(chart, landmark):
+        return [WRONG]
+    chart.places = places_with(chart, landmark, [])
+    return [0]
+
+
+def look(chart):
+    answer = [len(chart.places)]
+    for place in chart.places:
+        answer.append(0 if len(place) == 0 else 1)
+        answer.extend(place)
+    answer.append(len(chart.texts))
+    answer.extend([len(sayings) for sayings in chart.texts])
+    return answer
 
 
 def read_calls(calls):
@@ -290,6 +276,18 @@ def answer_call(chart, number, numbers, lists):
         return tells(chart, numbers[0], numbers[1])
     if number == SAME:
         return same(chart, numbers[0], numbers[1])
+    if number == LOST:
+        return lost(chart, numbers[0], numbers[1], numbers[2:4])
+    if number == LINE:
+        return line(chart, numbers[0], numbers[1], numbers[2:4], numbers[4:6])
+    if number == APART:
+        return apart(chart, numbers[0], numbers[1])
+    if number == MOVE:
+        return move(chart, numbers[0], numbers[1:3])
+    if number == GONE:
+        return make_gone(chart, numbers[0])
+    if number == LOOK:
+        return look(chart)
     raise UnknownCall(f"{number}")
 
 

@@ -1,6 +1,7 @@
 """Writes lists of calls, reads what is answered, and follows texts in a second way, to compare with."""
 
 from fractions import Fraction
+from math import lcm
 
 from goneoak.pegs import answers
 
@@ -36,6 +37,30 @@ def same(number, other):
     return call(5, (number, other))
 
 
+def lost(number, landmark, place):
+    return call(6, (number, landmark, *place))
+
+
+def line(number, landmark, place, that_place):
+    return call(7, (number, landmark, *place, *that_place))
+
+
+def apart(number, other):
+    return call(8, (number, other))
+
+
+def move(landmark, place):
+    return call(9, (landmark, *place))
+
+
+def gone(landmark):
+    return call(10, (landmark,))
+
+
+def look():
+    return call(11)
+
+
 # One of each call but begin, so as the interface writes them.
 ALL_BUT_BEGIN = (
     text([0, 0]),
@@ -43,12 +68,12 @@ ALL_BUT_BEGIN = (
     needs(0),
     tells(0, 0),
     same(0, 0),
-    call(6, (0, 0, 1, 1)),
-    call(7, (0, 0, 1, 1, 2, 2)),
-    call(8, (0, 0)),
-    call(9, (0, 1, 1)),
-    call(10, (0,)),
-    call(11),
+    lost(0, 0, [1, 1]),
+    line(0, 0, [1, 1], [2, 2]),
+    apart(0, 0),
+    move(0, [1, 1]),
+    gone(0),
+    look(),
 )
 
 
@@ -74,6 +99,10 @@ GALLOWS = (
     [1, 0], [1, 2], [3, 1], [4, 1], [6],
     [7, 0, 1],
 )
+
+
+# Each number with whether a place may have it.
+BOUNDS = ((-2000, False), (-1001, False), (-1000, True), (1000, True), (1001, False), (2000, False))
 
 
 def followed(sayings, places):
@@ -108,10 +137,21 @@ def followed(sayings, places):
 
 def as_told(pair):
     """A pair of fractions as the three numbers in lowest terms."""
-    under = 1
-    while (pair[0] * under).denominator != 1 or (pair[1] * under).denominator != 1:
-        under += 1
+    under = lcm(pair[0].denominator, pair[1].denominator)
     return [int(pair[0] * under), int(pair[1] * under), under]
+
+
+def chance_place(chance, far=1000):
+    return [chance.randint(-far, far), chance.randint(-far, far)]
+
+
+def needed_by(sayings, count):
+    """The landmarks that move the treasure when they are moved, among so many."""
+    middle = [[0, 0]] * count
+    return [
+        k for k in range(count)
+        if followed(sayings, [[1, 0] if other == k else [0, 0] for other in range(count)]) != followed(sayings, middle)
+    ]
 
 
 def chance_text(chance, landmarks):

@@ -2,7 +2,9 @@
 
 import unittest
 
-from tests.helper import ALL_BUT_BEGIN, ask, begin, last, needs, same, tells, text, treasure
+from tests.helper import (
+    ALL_BUT_BEGIN, apart, ask, begin, gone, last, line, look, lost, move, needs, same, tells, text, treasure,
+)
 
 STANDING = begin([3, 4], [7, 9])
 TO_OTHER = text([0, 0], [1, 1])
@@ -18,7 +20,10 @@ class WithoutMap(unittest.TestCase):
         self.assertEqual(ask(*ALL_BUT_BEGIN), [[-9]] * len(ALL_BUT_BEGIN))
 
     def test_minus_9_comes_ahead_of_other_refusals(self):
-        for one in (text(), text([9, 9, 9, 9]), treasure(9), needs(9), tells(9, 9), same(9, 9)):
+        for one in (
+            text(), text([9, 9, 9, 9]), treasure(9), needs(9), tells(9, 9), same(9, 9), lost(9, 9, [2000, 2000]),
+            line(9, 9, [2000, 0], [0, 2000]), apart(9, 9), move(9, [-2000, 0]), gone(9),
+        ):
             with self.subTest(call=one):
                 self.assertEqual(ask(one), [[-9]])
 
@@ -26,6 +31,10 @@ class WithoutMap(unittest.TestCase):
         for one in ALL_BUT_BEGIN:
             with self.subTest(call=one):
                 self.assertEqual(ask(begin(), one, begin([1]), one), [[-1], [-9], [-1], [-9]])
+
+    def test_move_and_gone_ahead_of_the_map_are_not_kept(self):
+        self.assertEqual(ask(move(0, [5, 6]), begin([1, 2]), look()), [[-9], [0], [1, 1, 1, 2, 0]])
+        self.assertEqual(ask(gone(0), begin([1, 2]), look()), [[-9], [0], [1, 1, 1, 2, 0]])
 
     def test_a_text_ahead_of_the_map_is_not_kept(self):
         self.assertEqual(ask(text([0, 0]), begin([1, 2]), treasure(0), text([0, 0])), [[-9], [0], [-2], [0]])

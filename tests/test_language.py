@@ -21,7 +21,7 @@ METHODS = set(
     " rsplit rstrip setdefault split splitlines startswith strip update upper values zfill bit_length".split()
 )
 BARRED_NODES = (
-    ast.Import, ast.ImportFrom, ast.With, ast.Match, ast.Delete, ast.Global, ast.Nonlocal, ast.Assert, ast.Yield,
+    ast.Import, ast.With, ast.Match, ast.Delete, ast.Global, ast.Nonlocal, ast.Assert, ast.Yield,
     ast.YieldFrom, ast.Await, ast.AsyncFunctionDef, ast.AsyncFor, ast.AsyncWith, ast.SetComp, ast.DictComp,
     ast.GeneratorExp, ast.NamedExpr, ast.Starred, ast.Div, ast.MatMult, ast.Is, ast.IsNot, ast.AnnAssign,
 )
@@ -37,6 +37,11 @@ def trees():
 
 def nodes(*kinds):
     return [(name, node) for name, tree in trees() for node in ast.walk(tree) if isinstance(node, kinds)]
+
+
+def bound_at_the_top(tree):
+    names = [node.name for node in tree.body if isinstance(node, (ast.FunctionDef, ast.ClassDef))]
+    return names + [node.targets[0].id for node in tree.body if isinstance(node, ast.Assign)]
 
 
 class Language(unittest.TestCase):
@@ -58,9 +63,37 @@ class Language(unittest.TestCase):
         for name, node in nodes(ast.FunctionDef):
             self.assertLessEqual(node.end_lineno - node.lineno + 1, 40, (name, node.name))
 
-    def test_no_import_and_nothing_else_that_is_barred(self):
-        found = [(name, node.lineno, node) for name, node in nodes(ast.stmt, ast.expr) if isinstance(node, BARRED_NODES)]
-        self.assertEqual(found, [])
+    def test_only_the_packages_own_is_drawn_in_and_from_where_it_is_defined(self):
+        drawn = {}
+        for name, tree in trees():
+            rows = [node for node in ast.walk(tree) if isinstance(node, ast.ImportFrom)]
+            first_others = [node for node in tree.body[1:] if not isinstance(node, ast.ImportFrom)][:1]
+            drawn[name] = []
+            for row in rows:
+                self.assertEqual(row.level, 0, name)
+                self.assertRegex(row.module, r"^goneoak\.[a-z]+$", name)
+                self.assertTrue(all(row.lineno < other.lineno for other in first_others), name)
+                source = row.module.split(".")[1] + ".py"
+                defined = bound_at_the_top(dict(trees())[source])
+                self.assertEqual([alias.name for alias in row.names if alias.name not in defined or alias.asname], [])
+                drawn[name].append(source)
+        self.assertEqual(drawn, {"__init__.py": [], "pegs.py": ["sayings.py"], "sayings.py": []})
+
+    def test_a_name_is_bound_once_at_the_top_and_none_is_called_like_an_import_or_a_class(self):
+        for name, tree in trees():
+            drawn = [alias.name for node in tree.body if isinstance(node, ast.ImportFrom) for alias in node.names]
+            bound = bound_at_the_top(tree) + drawn
+            self.assertEqual(len(bound), len(set(bound)), name)
+            classes = [node.name for node in tree.body if isinstance(node, ast.ClassDef)]
+            for node in ast.walk(tree):
+                if isinstance(node, ast.arg):
+                    self.assertNotIn(node.arg, drawn + classes, (name, node.lineno))
+                if isinstance(node, ast.Name) and isinstance(node.ctx, ast.Store):
+                    self.assertNotIn(node.id, drawn + classes, (name, node.lineno))
+
+    def test_nothing_else_that_is_barred(self):
+        found = [one for one in nodes(ast.stmt, ast.expr) if isinstance(one[1], BARRED_NODES)]
+        self.assertEqual([(name, node.lineno) for name, node in found], [])
         self.assertEqual(nodes(ast.Div, ast.MatMult, ast.Is, ast.IsNot, ast.Starred), [])
 
     def test_functions_and_classes_are_plain(self):

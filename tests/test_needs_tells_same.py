@@ -40,7 +40,8 @@ class Needs(unittest.TestCase):
     def test_one_that_moves_the_treasure_to_one_side_alone_is_needed(self):
         sayings = [[0, 0], [1, 1], [3, 1], [4, 1], [6], [1, 1], [1, 0], [7, 0, 0]]
         self.assertEqual(ask(THREE, text(*sayings), needs(0), tells(0, 0))[2:], [[2, 0, 1], [0, 0, -1, 1]])
-        self.assertEqual(ask(THREE, text([0, 0], [1, 1], [4, 1]), needs(0), tells(0, 0))[2:], [[2, 0, 1], [0, -1, 0, 1]])
+        straight = text([0, 0], [1, 1], [4, 1])
+        self.assertEqual(ask(THREE, straight, needs(0), tells(0, 0))[2:], [[2, 0, 1], [0, -1, 0, 1]])
 
     def test_it_does_not_matter_where_they_stand(self):
         sayings = text([0, 0], [1, 1], [5])
